@@ -39,6 +39,9 @@ func TestP1Limits(t *testing.T) {
 	if impl.MaxText != 65536 || impl.MaxList != 4096 || impl.MaxName != 12 || impl.MaxDecimal != 1000000000000 {
 		t.Error("limits", impl.MaxText, impl.MaxList, impl.MaxName, impl.MaxDecimal)
 	}
+	if impl.MaxHost != 40 || impl.MaxLabels != 6 || impl.MaxPath != 60 {
+		t.Error("limits of hosts and paths", impl.MaxHost, impl.MaxLabels, impl.MaxPath)
+	}
 }
 
 func TestP1EveryCodeAndItsWord(t *testing.T) {

@@ -41,14 +41,46 @@ func promiseStrings() []string {
 	return append(list, "", "-", "-0", "-1000000000001", " a = b ", "\tA\t")
 }
 
-func TestP1EqualArgumentsYieldEqualResults(t *testing.T) {
-	list := promiseStrings()
-	first := make([]octetResults, len(list))
+type hostResults struct {
+	host, address, match, path bool
+	canon, labels, defaultPath string
+	canonCode, labelsCode      int
+}
+
+// callHosts takes the part of s from a byte on as the domain, and the part before it as the cookie's path.
+func callHosts(s string, cut int) hostResults {
+	var r hostResults
+	cut %= len(s) + 1
+	r.host, r.address = impl.HostOK(s), impl.IsAddress(s)
+	r.match, r.path = impl.DomainMatch(s, s[cut:]), impl.PathMatch(s, s[:cut])
+	r.canon, r.canonCode = impl.CanonHost(s)
+	r.defaultPath = impl.DefaultPath(s)
+	labels, code := impl.LabelsOf(s)
+	r.labels, r.labelsCode = strings.Join(labels, " "), code
+	return r
+}
+
+// promiseHosts holds hosts, near misses and paths, and strings at and beyond the limits.
+func promiseHosts() []string {
+	list := slices.Concat(nearHosts(500), randomPaths(500), wordsOver("./aA1", 4))
+	list = append(list, "1.2.3.4", "3.4", "255.255.255.255", "A.Example.", "a.example")
+	for _, n := range []int{impl.MaxHost, impl.MaxHost + 1, impl.MaxText, impl.MaxText + 1} {
+		for _, t := range []string{"a", "A", "1", ".", "/", "\xff"} {
+			list = append(list, strings.Repeat(t, n))
+		}
+	}
+	return list
+}
+
+// checkRepeatable makes each call again, in another order and concurrently.
+func checkRepeatable[R comparable](t *testing.T, list []string, call func(s string, i int) R) {
+	t.Helper()
+	first := make([]R, len(list))
 	for i, s := range list {
-		first[i] = callAll(s, '=', i-100)
+		first[i] = call(s, i)
 	}
 	for i, s := range slices.Backward(list) {
-		if again := callAll(strings.Clone(s), '=', i-100); again != first[i] {
+		if call(strings.Clone(s), i) != first[i] {
 			t.Errorf("other results for %s at a later call", shown(s))
 		}
 	}
@@ -56,7 +88,7 @@ func TestP1EqualArgumentsYieldEqualResults(t *testing.T) {
 	for range 4 {
 		group.Go(func() {
 			for i, s := range list {
-				if callAll(s, '=', i-100) != first[i] {
+				if call(s, i) != first[i] {
 					t.Errorf("other results for %s in concurrent calls", shown(s))
 				}
 			}
@@ -65,10 +97,18 @@ func TestP1EqualArgumentsYieldEqualResults(t *testing.T) {
 	group.Wait()
 }
 
+func TestP1EqualArgumentsYieldEqualResults(t *testing.T) {
+	checkRepeatable(t, promiseStrings(), func(s string, i int) octetResults {
+		return callAll(s, '=', i-100)
+	})
+	checkRepeatable(t, promiseHosts(), callHosts)
+}
+
 func TestP1ArgumentsAreUnchanged(t *testing.T) {
-	for _, s := range promiseStrings() {
+	for _, s := range append(promiseStrings(), promiseHosts()...) {
 		given := strings.Clone(s)
 		callAll(given, '=', 0)
+		callHosts(given, len(s)/2)
 		if given != s {
 			t.Errorf("the argument %s became %s", shown(s), shown(given))
 		}
@@ -92,6 +132,29 @@ func TestP1ResultsAreNewMemory(t *testing.T) {
 				t.Errorf("the result %s shares memory with the argument %s", shown(result), shown(s))
 			}
 		}
+	}
+}
+
+func TestP1HostResultsAreNewMemory(t *testing.T) {
+	for _, s := range []string{"a.example", "single", "1.2.3.4", "A.Example.", strings.Repeat("a", impl.MaxHost), "/a/b", "//", strings.Repeat("/a", impl.MaxText/2)} {
+		given := strings.Clone(s)
+		canon, _ := impl.CanonHost(given)
+		labels, _ := impl.LabelsOf(given)
+		for _, result := range append(labels, canon, impl.DefaultPath(given)) {
+			if sharesMemory(given, result) {
+				t.Errorf("the result %s shares memory with the argument %s", shown(result), shown(s))
+			}
+		}
+	}
+}
+
+func TestP1LabelsAreNewAtEachCall(t *testing.T) {
+	given := "c.b.a"
+	first, _ := impl.LabelsOf(given)
+	clear(first)
+	_ = append(first[:1], "x", "y")
+	if again, code := impl.LabelsOf(given); code != 0 || !slices.Equal(again, []string{"c", "b", "a"}) {
+		t.Errorf("LabelsOf(%q) = %q, %d after a change of its first result", given, again, code)
 	}
 }
 
