@@ -72,6 +72,38 @@ func promiseHosts() []string {
 	return list
 }
 
+type dateResults struct {
+	tokens, text                                     string
+	read, date                                       impl.Date
+	tokensCode, readCode, seconds, weekday, textCode int
+	secondsCode, weekdayCode, dateCode               int
+	valid                                            bool
+}
+
+// callDates takes the date that s holds, if there is one, and otherwise one with fields from n.
+func callDates(s string, n int) dateResults {
+	var r dateResults
+	tokens, code := impl.DateTokens(s)
+	r.tokens, r.tokensCode = strings.Join(tokens, " "), code
+	r.read, r.readCode = impl.ReadDate(s)
+	r.date, r.dateCode = impl.DateOf(n * 123456789)
+	d := r.read
+	if r.readCode != 0 {
+		d = impl.Date{Year: 1600 + n, Month: n % 14, Day: n % 33, Hour: n % 25}
+	}
+	r.valid = impl.DateOK(d)
+	r.seconds, r.secondsCode = impl.Seconds(d)
+	r.weekday, r.weekdayCode = impl.Weekday(d)
+	r.text, r.textCode = impl.DateText(d)
+	return r
+}
+
+// promiseDates holds dates, near misses, and strings at and beyond the limit.
+func promiseDates() []string {
+	list := slices.Concat(randomDates(500), nearDates(1000), longDates(impl.MaxText)[:3], longDates(impl.MaxText + 1)[:3])
+	return append(list, "", "Thu, 01 Jan 1970 00:00:00 GMT", "29 feb 1900 1:1:1")
+}
+
 // checkRepeatable makes each call again, in another order and concurrently.
 func checkRepeatable[R comparable](t *testing.T, list []string, call func(s string, i int) R) {
 	t.Helper()
@@ -102,13 +134,15 @@ func TestP1EqualArgumentsYieldEqualResults(t *testing.T) {
 		return callAll(s, '=', i-100)
 	})
 	checkRepeatable(t, promiseHosts(), callHosts)
+	checkRepeatable(t, promiseDates(), callDates)
 }
 
 func TestP1ArgumentsAreUnchanged(t *testing.T) {
-	for _, s := range append(promiseStrings(), promiseHosts()...) {
+	for _, s := range slices.Concat(promiseStrings(), promiseHosts(), promiseDates()) {
 		given := strings.Clone(s)
 		callAll(given, '=', 0)
 		callHosts(given, len(s)/2)
+		callDates(given, len(s))
 		if given != s {
 			t.Errorf("the argument %s became %s", shown(s), shown(given))
 		}
@@ -155,6 +189,24 @@ func TestP1LabelsAreNewAtEachCall(t *testing.T) {
 	_ = append(first[:1], "x", "y")
 	if again, code := impl.LabelsOf(given); code != 0 || !slices.Equal(again, []string{"c", "b", "a"}) {
 		t.Errorf("LabelsOf(%q) = %q, %d after a change of its first result", given, again, code)
+	}
+}
+
+func TestP1TokensAreNewMemory(t *testing.T) {
+	for _, s := range []string{"a", "Thu, 01 Jan 1970 00:00:00 GMT", "\xff x", strings.Repeat("a", impl.MaxText)} {
+		given := strings.Clone(s)
+		first, _ := impl.DateTokens(given)
+		want := slices.Clone(first)
+		for _, token := range first {
+			if sharesMemory(given, token) {
+				t.Errorf("the token %s shares memory with the argument %s", shown(token), shown(s))
+			}
+		}
+		clear(first)
+		_ = append(first[:1], "x", "y")
+		if again, code := impl.DateTokens(given); code != 0 || !slices.Equal(again, want) {
+			t.Errorf("DateTokens(%s) = %d tokens, %d after a change of its first result", shown(s), len(again), code)
+		}
 	}
 }
 
