@@ -104,6 +104,36 @@ func promiseDates() []string {
 	return append(list, "", "Thu, 01 Jan 1970 00:00:00 GMT", "29 feb 1900 1:1:1")
 }
 
+type headerResults struct {
+	parsed, made                                        impl.Parsed
+	text, pairs                                         string
+	parsedCode, textCode, pairsCode, age, ageCode, site int
+	valid                                               bool
+}
+
+// callHeaders takes the parsed header of s, if there is one, and otherwise one with s and n in its fields.
+func callHeaders(s string, n int) headerResults {
+	var r headerResults
+	r.parsed, r.parsedCode = impl.ParseSet(s)
+	pairs, code := impl.ReadPairs(s)
+	r.pairs, r.pairsCode = strings.Join(pairs, ";"), code
+	r.age, r.ageCode = impl.ReadAge(s)
+	r.site = impl.ReadSite(s)
+	r.made = r.parsed
+	if r.parsedCode != 0 {
+		r.made = impl.Parsed{Name: "n", Value: s, Domain: s, HasAge: n%2 == 0, Age: n, HasExpires: true, Expires: n, Site: n % 6}
+	}
+	r.valid = impl.ParsedOK(r.made)
+	r.text, r.textCode = impl.SetText(r.made)
+	return r
+}
+
+// promiseHeaders holds headers, near misses, and strings at and beyond the limit.
+func promiseHeaders() []string {
+	list := slices.Concat(randomHeaders(2000), wordsOver("a=; P", 4), longHeaders(impl.MaxText)[:3], longHeaders(impl.MaxText + 1)[:3])
+	return append(list, "", "a=b; Secure; Path=/; Max-Age=5", "a=b; c; =d=e", "lax", "-007")
+}
+
 // checkRepeatable makes each call again, in another order and concurrently.
 func checkRepeatable[R comparable](t *testing.T, list []string, call func(s string, i int) R) {
 	t.Helper()
@@ -135,14 +165,16 @@ func TestP1EqualArgumentsYieldEqualResults(t *testing.T) {
 	})
 	checkRepeatable(t, promiseHosts(), callHosts)
 	checkRepeatable(t, promiseDates(), callDates)
+	checkRepeatable(t, promiseHeaders(), callHeaders)
 }
 
 func TestP1ArgumentsAreUnchanged(t *testing.T) {
-	for _, s := range slices.Concat(promiseStrings(), promiseHosts(), promiseDates()) {
+	for _, s := range slices.Concat(promiseStrings(), promiseHosts(), promiseDates(), promiseHeaders()) {
 		given := strings.Clone(s)
 		callAll(given, '=', 0)
 		callHosts(given, len(s)/2)
 		callDates(given, len(s))
+		callHeaders(given, len(s))
 		if given != s {
 			t.Errorf("the argument %s became %s", shown(s), shown(given))
 		}
@@ -207,6 +239,35 @@ func TestP1TokensAreNewMemory(t *testing.T) {
 		if again, code := impl.DateTokens(given); code != 0 || !slices.Equal(again, want) {
 			t.Errorf("DateTokens(%s) = %d tokens, %d after a change of its first result", shown(s), len(again), code)
 		}
+	}
+}
+
+func TestP1HeaderResultsAreNewMemory(t *testing.T) {
+	for _, s := range []string{"name=value; domain=a.example; path=/a/b", " v ", "value", "name=", filled("n=", "v", 101), filled("a=b; path=/x; path", ";", impl.MaxText), "a=b; c; =d=e"} {
+		given := strings.Clone(s)
+		p, _ := impl.ParseSet(given)
+		text, _ := impl.SetText(p)
+		pairs, _ := impl.ReadPairs(given)
+		for _, result := range append(pairs, p.Name, p.Value, p.Domain, p.Path, text) {
+			if sharesMemory(given, result) {
+				t.Errorf("the result %s shares memory with the argument %s", shown(result), shown(s))
+			}
+		}
+		for _, field := range []string{p.Name, p.Value, p.Domain, p.Path} {
+			if sharesMemory(field, text) {
+				t.Errorf("the text %s shares memory with its field %s", shown(text), shown(field))
+			}
+		}
+	}
+}
+
+func TestP1PairsAreNewAtEachCall(t *testing.T) {
+	given := "a=b; c; d=e"
+	first, _ := impl.ReadPairs(given)
+	clear(first)
+	_ = append(first[:1], "x", "y")
+	if again, code := impl.ReadPairs(given); code != 0 || !slices.Equal(again, []string{"a", "b", "", "c", "d", "e"}) {
+		t.Errorf("ReadPairs(%q) = %q, %d after a change of its first result", given, again, code)
 	}
 }
 
