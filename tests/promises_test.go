@@ -134,6 +134,32 @@ func promiseHeaders() []string {
 	return append(list, "", "a=b; Secure; Path=/; Max-Age=5", "a=b; c; =d=e", "lax", "-007")
 }
 
+type suffixResults struct {
+	rule, valid, suffix, same                     bool
+	end, party                                    string
+	endCode, suffixCode, partyCode, samePartyCode int
+}
+
+// callSuffixes takes some of promiseRules, with s among them at every third call.
+func callSuffixes(s string, i int) suffixResults {
+	var r suffixResults
+	rules := promiseRules()[i%len(promiseRules())]
+	if i%3 == 0 {
+		rules = append(rules, s)
+	}
+	r.rule, r.valid = impl.RuleOK(s), impl.RulesOK(rules)
+	r.end, r.endCode = impl.SuffixOf(rules, s)
+	r.suffix, r.suffixCode = impl.IsSuffix(rules, s)
+	r.party, r.partyCode = impl.Registrable(rules, s)
+	r.same, r.samePartyCode = impl.SameParty(rules, s, s[len(s)/2:])
+	return r
+}
+
+// promiseRules holds lists of rules that are valid together and of some that are not.
+func promiseRules() [][]string {
+	return [][]string{nil, {}, {"a"}, {"*.a", "!a.a"}, {"!a.example", "example", "*.example", "1"}, {"", "a"}, {"a", "a"}, manyRules(8), manyRules(9)}
+}
+
 // checkRepeatable makes each call again, in another order and concurrently.
 func checkRepeatable[R comparable](t *testing.T, list []string, call func(s string, i int) R) {
 	t.Helper()
@@ -166,6 +192,7 @@ func TestP1EqualArgumentsYieldEqualResults(t *testing.T) {
 	checkRepeatable(t, promiseHosts(), callHosts)
 	checkRepeatable(t, promiseDates(), callDates)
 	checkRepeatable(t, promiseHeaders(), callHeaders)
+	checkRepeatable(t, append(promiseHosts(), suffixHosts()...), callSuffixes)
 }
 
 func TestP1ArgumentsAreUnchanged(t *testing.T) {
@@ -175,6 +202,7 @@ func TestP1ArgumentsAreUnchanged(t *testing.T) {
 		callHosts(given, len(s)/2)
 		callDates(given, len(s))
 		callHeaders(given, len(s))
+		callSuffixes(given, len(s))
 		if given != s {
 			t.Errorf("the argument %s became %s", shown(s), shown(given))
 		}
@@ -268,6 +296,58 @@ func TestP1PairsAreNewAtEachCall(t *testing.T) {
 	_ = append(first[:1], "x", "y")
 	if again, code := impl.ReadPairs(given); code != 0 || !slices.Equal(again, []string{"a", "b", "", "c", "d", "e"}) {
 		t.Errorf("ReadPairs(%q) = %q, %d after a change of its first result", given, again, code)
+	}
+}
+
+func TestP1SuffixResultsAreNewMemory(t *testing.T) {
+	for _, host := range []string{"a", "b.a", "c.b.a", "1.2.3.4", "f.e.d.c.b.a", strings.Repeat("a", impl.MaxHost)} {
+		for _, rule := range []string{"a", "*.a", "!b.a", "c.b.a", host} {
+			given, rules := strings.Clone(host), []string{strings.Clone(rule)}
+			suffix, _ := impl.SuffixOf(rules, given)
+			party, _ := impl.Registrable(rules, given)
+			for _, result := range []string{suffix, party} {
+				if sharesMemory(given, result) || sharesMemory(rules[0], result) {
+					t.Errorf("the result %s shares memory with the host %s or the rule %s", shown(result), shown(host), shown(rule))
+				}
+			}
+		}
+	}
+}
+
+// The rules end before the capacity of their list, and what stands behind them is no rule.
+func TestP1RulesAreUnchanged(t *testing.T) {
+	for _, rules := range append(promiseRules(), ruleLists(100)...) {
+		given := slices.Concat(rules, []string{"*", "z", "*"})
+		want := slices.Clone(given)
+		part := given[:len(rules)]
+		for _, host := range []string{"a", "b.a.example", "", "1.2.3.4"} {
+			impl.RulesOK(part)
+			impl.SuffixOf(part, host)
+			impl.IsSuffix(part, host)
+			impl.Registrable(part, host)
+			impl.SameParty(part, host, "c.a.example")
+		}
+		if !slices.Equal(given, want) {
+			t.Errorf("the rules %s became %s", shownRules(want), shownRules(given))
+		}
+	}
+}
+
+// Fewer, other or the same rules in a call leave nothing behind for the next one.
+func TestP1SuffixesDoNotDependOnEarlierRules(t *testing.T) {
+	lists := append(promiseRules(), ruleLists(30)...)
+	for _, first := range lists {
+		for _, second := range lists {
+			impl.SuffixOf(first, "c.b.a")
+			suffix, code := impl.SuffixOf(second, "c.b.a")
+			want, wantCode := "", impl.ErrBad
+			if rulesByPairs(second) {
+				want, wantCode = tailOf("c.b.a", sizeByTails(second, "c.b.a")), 0
+			}
+			if suffix != want || code != wantCode {
+				t.Errorf("SuffixOf(%s, c.b.a) = %q, %d after a call with %s, want %q, %d", shownRules(second), suffix, code, shownRules(first), want, wantCode)
+			}
+		}
 	}
 }
 
