@@ -160,6 +160,35 @@ func promiseRules() [][]string {
 	return [][]string{nil, {}, {"a"}, {"*.a", "!a.a"}, {"!a.example", "example", "*.example", "1"}, {"", "a"}, {"a", "a"}, manyRules(8), manyRules(9)}
 }
 
+type cookieResults struct {
+	sorted, header                          string
+	sortedCode, headerCode                  int
+	valid, same, comes, goes, covers, other bool
+}
+
+// callCookies takes cookies that hold s, or a part of it, and one from i.
+func callCookies(s string, i int) cookieResults {
+	var r cookieResults
+	a, b := someCookie(), cookieWith(func(c *impl.Cookie) { c.Id, c.Made, c.Used = i, i%20, i })
+	switch i % 5 {
+	case 0:
+		a.Name, a.Value = s[:len(s)/2], s[len(s)/2:]
+	case 1:
+		a.Domain = s
+	case 2:
+		a.Path = s
+	case 3:
+		a.Secure, a.Path = true, "/"+s
+	}
+	r.valid, r.same, r.other = impl.CookieOK(a), impl.SameKey(a, b), impl.Covers(b, a)
+	r.comes, r.goes, r.covers = impl.ComesFirst(a, b), impl.GoesFirst(a, b, i), impl.Covers(a, b)
+	list := []impl.Cookie{a, b, fullCookie(), a}[:1+i%4]
+	sorted, code := impl.SortCookies(list)
+	r.sorted, r.sortedCode = shownCookies(sorted), code
+	r.header, r.headerCode = impl.HeaderOf(list)
+	return r
+}
+
 // checkRepeatable makes each call again, in another order and concurrently.
 func checkRepeatable[R comparable](t *testing.T, list []string, call func(s string, i int) R) {
 	t.Helper()
@@ -193,6 +222,7 @@ func TestP1EqualArgumentsYieldEqualResults(t *testing.T) {
 	checkRepeatable(t, promiseDates(), callDates)
 	checkRepeatable(t, promiseHeaders(), callHeaders)
 	checkRepeatable(t, append(promiseHosts(), suffixHosts()...), callSuffixes)
+	checkRepeatable(t, slices.Concat(promiseHosts(), onlyHosts(nearHosts(500)), randomPaths(500), wordsOver("a= \t", 4)), callCookies)
 }
 
 func TestP1ArgumentsAreUnchanged(t *testing.T) {
@@ -203,6 +233,9 @@ func TestP1ArgumentsAreUnchanged(t *testing.T) {
 		callDates(given, len(s))
 		callHeaders(given, len(s))
 		callSuffixes(given, len(s))
+		for i := range 5 {
+			callCookies(given, i)
+		}
 		if given != s {
 			t.Errorf("the argument %s became %s", shown(s), shown(given))
 		}
@@ -347,6 +380,81 @@ func TestP1SuffixesDoNotDependOnEarlierRules(t *testing.T) {
 			if suffix != want || code != wantCode {
 				t.Errorf("SuffixOf(%s, c.b.a) = %q, %d after a call with %s, want %q, %d", shownRules(second), suffix, code, shownRules(first), want, wantCode)
 			}
+		}
+	}
+}
+
+// cookieWithOwnText shares no memory with constants or with another cookie.
+func cookieWithOwnText(name, value string) impl.Cookie {
+	return cookieWith(func(c *impl.Cookie) {
+		c.Name, c.Value = strings.Clone(name), strings.Clone(value)
+		c.Domain, c.Path = strings.Clone(c.Domain), strings.Clone(c.Path)
+	})
+}
+
+func cookieTexts(list []impl.Cookie) []string {
+	var texts []string
+	for _, c := range list {
+		texts = append(texts, c.Name, c.Value, c.Domain, c.Path)
+	}
+	return texts
+}
+
+func TestP1CookieResultsAreNewMemory(t *testing.T) {
+	shared := cookieWithOwnText("n", "v")
+	for _, list := range [][]impl.Cookie{
+		{cookieWithOwnText("n", "v")}, {cookieWithOwnText("", "v")}, {cookieWithOwnText("n", "")}, {cookieWithOwnText("", "v"), cookieWithOwnText("", "w")},
+		{shared, shared}, manyCookies(20),
+	} {
+		sorted, _ := impl.SortCookies(list)
+		header, _ := impl.HeaderOf(list)
+		texts := cookieTexts(list)
+		for _, text := range texts {
+			if sharesMemory(text, header) {
+				t.Errorf("the header %s shares memory with the field %s", shown(header), shown(text))
+			}
+		}
+		for _, result := range cookieTexts(sorted) {
+			for _, text := range texts {
+				if sharesMemory(text, result) {
+					t.Errorf("the field %s of a sorted cookie shares memory with the argument or another result", shown(result))
+				}
+			}
+			texts = append(texts, result)
+		}
+	}
+}
+
+func TestP1SortedCookiesAreNewAtEachCall(t *testing.T) {
+	for _, list := range [][]impl.Cookie{{someCookie()}, inOrder(), manyCookies(50)} {
+		given := slices.Clone(list)
+		first, _ := impl.SortCookies(given)
+		want := slices.Clone(first)
+		clear(first)
+		_ = append(first[:1], fullCookie(), fullCookie())
+		if !slices.Equal(given, list) {
+			t.Errorf("a change of the result of SortCookies changed its argument %s", shownCookies(list))
+		}
+		if again, code := impl.SortCookies(given); code != 0 || !slices.Equal(again, want) {
+			t.Errorf("SortCookies(%s) = %s, %d after a change of its first result", shownCookies(list), shownCookies(again), code)
+		}
+	}
+}
+
+// The cookies end before the capacity of their list, and what stands behind them is no cookie.
+func TestP1ListsOfCookiesAreUnchanged(t *testing.T) {
+	reversed := inOrder()
+	slices.Reverse(reversed)
+	for _, list := range [][]impl.Cookie{nil, {someCookie()}, reversed, badCookies(), {fullCookie(), {}}} {
+		given := slices.Concat(list, make([]impl.Cookie, 3), []impl.Cookie{fullCookie()})
+		want := slices.Clone(given)
+		_, sortCode := impl.SortCookies(given[:len(list)])
+		_, headerCode := impl.HeaderOf(given[:len(list)])
+		if !slices.Equal(given, want) {
+			t.Errorf("the cookies %s became %s", shownCookies(want), shownCookies(given))
+		}
+		if code := codeByFields(list); sortCode != code || headerCode != code {
+			t.Errorf("the codes of SortCookies and HeaderOf %s are %d and %d, want %d", shownCookies(list), sortCode, headerCode, code)
 		}
 	}
 }
