@@ -223,9 +223,11 @@ func TestP1EqualArgumentsYieldEqualResults(t *testing.T) {
 	checkRepeatable(t, promiseHeaders(), callHeaders)
 	checkRepeatable(t, append(promiseHosts(), suffixHosts()...), callSuffixes)
 	checkRepeatable(t, slices.Concat(promiseHosts(), onlyHosts(nearHosts(500)), randomPaths(500), wordsOver("a= \t", 4)), callCookies)
+	checkRepeatable(t, promiseTrieHosts(), callTries())
 }
 
 func TestP1ArgumentsAreUnchanged(t *testing.T) {
+	callTrie := callTries()
 	for _, s := range slices.Concat(promiseStrings(), promiseHosts(), promiseDates(), promiseHeaders()) {
 		given := strings.Clone(s)
 		callAll(given, '=', 0)
@@ -236,6 +238,7 @@ func TestP1ArgumentsAreUnchanged(t *testing.T) {
 		for i := range 5 {
 			callCookies(given, i)
 		}
+		callTrie(given, len(s))
 		if given != s {
 			t.Errorf("the argument %s became %s", shown(s), shown(given))
 		}
