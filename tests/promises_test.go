@@ -224,6 +224,7 @@ func TestP1EqualArgumentsYieldEqualResults(t *testing.T) {
 	checkRepeatable(t, append(promiseHosts(), suffixHosts()...), callSuffixes)
 	checkRepeatable(t, slices.Concat(promiseHosts(), onlyHosts(nearHosts(500)), randomPaths(500), wordsOver("a= \t", 4)), callCookies)
 	checkRepeatable(t, promiseTrieHosts(), callTries())
+	checkRepeatable(t, randomStrings(2000), callHeaps())
 }
 
 func TestP1ArgumentsAreUnchanged(t *testing.T) {
