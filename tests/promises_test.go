@@ -225,10 +225,11 @@ func TestP1EqualArgumentsYieldEqualResults(t *testing.T) {
 	checkRepeatable(t, slices.Concat(promiseHosts(), onlyHosts(nearHosts(500)), randomPaths(500), wordsOver("a= \t", 4)), callCookies)
 	checkRepeatable(t, promiseTrieHosts(), callTries())
 	checkRepeatable(t, randomStrings(2000), callHeaps())
+	checkRepeatable(t, slices.Concat(promiseHosts()[:700], randomHeaders(1000), memoryHeaders(), onlyHosts(nearHosts(300))), callJars())
 }
 
 func TestP1ArgumentsAreUnchanged(t *testing.T) {
-	callTrie := callTries()
+	callTrie, callJar := callTries(), callJars()
 	for _, s := range slices.Concat(promiseStrings(), promiseHosts(), promiseDates(), promiseHeaders()) {
 		given := strings.Clone(s)
 		callAll(given, '=', 0)
@@ -240,6 +241,7 @@ func TestP1ArgumentsAreUnchanged(t *testing.T) {
 			callCookies(given, i)
 		}
 		callTrie(given, len(s))
+		callJar(given, len(s))
 		if given != s {
 			t.Errorf("the argument %s became %s", shown(s), shown(given))
 		}
