@@ -112,21 +112,29 @@ func requestSpans(r impl.Request, texts ...string) []span {
 	return slices.DeleteFunc(list, func(a span) bool { return a.from == a.to })
 }
 
+// checkJarUnchanged makes the calls with a jar that has spare capacity.
+func checkJarUnchanged(t *testing.T, j impl.Jar, calls func(given impl.Jar)) {
+	t.Helper()
+	given := withSpareJar(j)
+	before := shownSpare(given)
+	calls(given)
+	if after := shownSpare(given); after != before {
+		t.Errorf("the jar and its spare capacity %s became %s", before, after)
+	}
+}
+
 func TestP1JarsAreUnchanged(t *testing.T) {
 	for _, j := range memoryJars() {
-		given := withSpareJar(j)
-		before := shownSpare(given)
-		for _, r := range memoryRequests() {
-			for _, header := range memoryHeaders() {
-				callJarFunctions(given, r, header)
-				impl.SameJar(given, someJar())
-				impl.SameJar(someJar(), given)
-				impl.CookieFrom(given, r, impl.Parsed{})
+		checkJarUnchanged(t, j, func(given impl.Jar) {
+			for _, r := range memoryRequests() {
+				for _, header := range memoryHeaders() {
+					callJarFunctions(given, r, header)
+					impl.SameJar(given, someJar())
+					impl.SameJar(someJar(), given)
+					impl.CookieFrom(given, r, impl.Parsed{})
+				}
 			}
-		}
-		if after := shownSpare(given); after != before {
-			t.Errorf("the jar and its spare capacity %s became %s", before, after)
-		}
+		})
 	}
 }
 
@@ -143,18 +151,22 @@ func TestP1HeadersOfAJarAreUnchanged(t *testing.T) {
 	}
 }
 
-// checkNewJar checks that the jar shares no memory with the arguments, nor two of its slices or strings with each other.
-func checkNewJar(t *testing.T, what string, result impl.Jar, arguments []span) {
+// checkApart checks that no two of the memories of one result are the same, and none is that of an argument.
+func checkApart(t *testing.T, what string, spans, arguments []span) {
 	t.Helper()
-	spans := jarSpans(result)
 	if anyOverlap(arguments, spans) {
-		t.Errorf("the jar %s of %s shares memory with an argument", shownJar(result), what)
+		t.Errorf("%s shares memory with an argument", what)
 	}
 	for i, a := range spans {
 		if anyOverlap([]span{a}, spans[i+1:]) {
-			t.Errorf("two slices or strings of the jar %s of %s share memory", shownJar(result), what)
+			t.Errorf("two slices or strings of %s share memory", what)
 		}
 	}
+}
+
+func checkNewJar(t *testing.T, what string, result impl.Jar, arguments []span) {
+	t.Helper()
+	checkApart(t, "the jar "+shownJar(result)+" of "+what, jarSpans(result), arguments)
 }
 
 func ownRequest(r impl.Request) impl.Request {

@@ -226,10 +226,11 @@ func TestP1EqualArgumentsYieldEqualResults(t *testing.T) {
 	checkRepeatable(t, promiseTrieHosts(), callTries())
 	checkRepeatable(t, randomStrings(2000), callHeaps())
 	checkRepeatable(t, slices.Concat(promiseHosts()[:700], randomHeaders(1000), memoryHeaders(), onlyHosts(nearHosts(300))), callJars())
+	checkRepeatable(t, slices.Concat(promiseHosts()[:700], randomPaths(500), onlyHosts(nearHosts(300))), callTells())
 }
 
 func TestP1ArgumentsAreUnchanged(t *testing.T) {
-	callTrie, callJar := callTries(), callJars()
+	callTrie, callJar, callTell := callTries(), callJars(), callTells()
 	for _, s := range slices.Concat(promiseStrings(), promiseHosts(), promiseDates(), promiseHeaders()) {
 		given := strings.Clone(s)
 		callAll(given, '=', 0)
@@ -242,6 +243,7 @@ func TestP1ArgumentsAreUnchanged(t *testing.T) {
 		}
 		callTrie(given, len(s))
 		callJar(given, len(s))
+		callTell(given, len(s))
 		if given != s {
 			t.Errorf("the argument %s became %s", shown(s), shown(given))
 		}
